@@ -8,7 +8,6 @@ alike from each turn of the length 1 / g to the next one.
 from math import gcd, lcm
 
 from allzooms.errors import TooMany
-from allzooms.ratios import Ratio
 
 MOST_CUTS = 1000
 

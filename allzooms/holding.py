@@ -111,8 +111,10 @@ class Holding:
         by_turn = {}
         for told, atom in self.atoms_told.items():
             for start, state in atom.truth_changes(low, high, pixels):
-                by_turn[start] = [*by_turn.get(start, []), (told, state)]
-        starts = sorted([int(start) for start in by_turn])
+                if start not in by_turn:
+                    by_turn[start] = []
+                by_turn[start].append((told, state))
+        starts = sorted([int(turn) for turn in by_turn])
         states = {}
         story = []
         for start, end in zip(starts, [*starts[1:], None]):
@@ -137,7 +139,7 @@ class Holding:
         for turn in range(begin, end):
             content = self.content(truths, lines, turn)
             if self.put(story, turn, content):
-                self.inner_marks += len(content[1])
+                self.inner_marks = self.inner_marks + len(content[1])
             if self.inner_marks > MOST_MARKS:
                 raise TooMany("marks", MOST_MARKS)
 
@@ -153,7 +155,7 @@ class Holding:
         places = {}
         for told, (slope, base) in lines.items():
             places[told] = -(slope * turn + base) * (self.rises // self.atoms_told[told].shape.rise)
-        unlike = sorted([int(place) for place in {place: True for place in places.values()}])
+        unlike = sorted(set([int(place) for place in places.values()]))
         found = []
         for at in range(2 * len(unlike) + 1):
             known = {told: truth for told, truth in truths.items() if truth is not None}

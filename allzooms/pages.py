@@ -91,7 +91,7 @@ class Box:
         for box in inner:
             if not isinstance(box, Box):
                 raise BadBox("inner")
-        names = (name, *names_of(inner))
+        names = (name,) + names_of(inner)
         check_unlike(names)
         self.name = name
         self.offset = offset

@@ -62,7 +62,7 @@ def terms_in_order(terms):
         if term.told not in by_told:
             by_told[term.told] = term
             place = (term.moves, term.unit)
-            by_unit[place] = [*by_unit.get(place, []), term.told]
+            by_unit[place] = by_unit.get(place, []) + [term.told]
     ordered = []
     for moves in (True, False):
         for unit in sorted([int(unit) for is_moved, unit in by_unit if is_moved == moves]):
