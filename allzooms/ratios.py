@@ -36,6 +36,18 @@ def all_numbers(values):
     return [Ratio.of(value) for value in values]
 
 
+def bound_of(values, is_greatest):
+    """The greatest one, or the least one, of some numbers."""
+    numbers = all_numbers(values)
+    if not numbers:
+        raise BadRatio("values")
+    bound = numbers[0]
+    for number in numbers[1:]:
+        if number > bound if is_greatest else number < bound:
+            bound = number
+    return bound
+
+
 class Ratio:
     """The fraction over / under, in lowest terms, the lower part above 0."""
 
@@ -62,26 +74,12 @@ class Ratio:
     @staticmethod
     def highest(values):
         """The greatest one of some numbers."""
-        numbers = all_numbers(values)
-        if not numbers:
-            raise BadRatio("values")
-        best = numbers[0]
-        for number in numbers:
-            if number > best:
-                best = number
-        return best
+        return bound_of(values, True)
 
     @staticmethod
     def lowest(values):
         """The least one of some numbers."""
-        numbers = all_numbers(values)
-        if not numbers:
-            raise BadRatio("values")
-        best = numbers[0]
-        for number in numbers:
-            if number < best:
-                best = number
-        return best
+        return bound_of(values, False)
 
     @staticmethod
     def common(values):

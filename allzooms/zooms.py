@@ -164,7 +164,7 @@ class Zooms:
     def place_from(self, many):
         """The place at which the zooms begin that are in, behind so many marks and what is out there."""
         begins = self.mark(many)
-        return None if begins is None else (begins[0], begins[1])
+        return None if begins is None else begins[:2]
 
     def joined(self, other, sign):
         """What a sign makes of this set and another one."""
@@ -248,7 +248,7 @@ class Zooms:
         """The place from which on all zooms are in, None if there is none."""
         if self.once < len(self.marks) or not self.state_behind(self.once):
             return None
-        return (self.marks[-1][0], self.marks[-1][1]) if self.marks else (Ratio(0), False)
+        return self.marks[-1][:2] if self.marks else (Ratio(0), False)
 
     @property
     def share(self):
@@ -275,11 +275,8 @@ class Zooms:
         if place in self:
             return place, True
         many = self.marks_upto(place)
-        last = self.mark(many - 1) if many > 0 else None
-        if last is not None and last[0] == place:
-            # A mark that is out ends a stretch on one of its sides.
-            return place, False
-        low = None if last is None else (last[0], last[1])
+        # The last mark ends the stretch below; if it is this zoom itself, nothing can be nearer.
+        low = self.mark(many - 1)[:2] if many > 0 else None
         return nearer(place, low, self.place_from(many))
 
     def stretches(self, upto):

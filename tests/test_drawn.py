@@ -64,6 +64,7 @@ class DrawnTest(Case):
             self.assertIs(thing_made.is_whole, not thing_made.has_true and all(
                 "/" not in word or words[at - 1] in ("from", "above")
                 for words in [str(thing_made).split()] for at, word in enumerate(words)))
+        self.assertEqual((Drawn.edge(1)(2), Drawn.true(1, 1)(2), (Drawn.edge(1) - 1)(2)), (2, 2, 1))
 
     def test_operators(self):
         for seed in range(60):

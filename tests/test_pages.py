@@ -150,6 +150,8 @@ class PageTest(Case):
         self.refuses(Taken("c"), made.with_box, Box("x", 0, 1, Box("d", 0, 1), Box("c", 0, 1)), "b")
         self.refuses(Taken("d"), made.with_box, Box("x", 0, 1, Box("d", 0, 1), Box("c", 0, 1)))
         self.refuses(Taken("d"), made.with_box, Box("d", 0, 1), "c")
+        self.refuses(Taken("b"), made.with_box, Box("x", 0, 1, Box("b", 0, 1), Box("a", 0, 1)), "c")
+        self.refuses(Taken("c"), made.with_box, Box("x", 0, 1, Box("d", 0, 1), Box("c", 0, 1)), "b")
         full = Page(*[Box(letter, 0, 1) for letter in "abcdefghijklmnopqrstuvwx"])
         self.refuses(TooMany("boxes", 24), full.with_box, Box("y", 0, 1), "c")
         self.refuses(TooMany("boxes", 24), full.with_box, Box("y", 0, 1))

@@ -92,6 +92,17 @@ class StillTest(Case):
         far = zooms_at((Drawn.size(1) | 10 ** 30).equals(Drawn.size(2) & 10 ** 30))
         self.assertEqual(far.stretches(LONG).__next__(), (Ratio(10 ** 30 * 2 - 1, 4), True, Ratio(10 ** 30 * 2 + 1, 2), False))
 
+    def test_least_steps(self):
+        down = Drawn.size(1, Rounding.all_down())
+        for claim, text in (
+            (down.at_most(5), "in 6 out out from 6 turn 1"), (down.below(5), "in 5 out out from 5 turn 1"),
+            (down.at_least(5), "out 5 in in from 5 turn 1"), (down.above(5), "out 6 in in from 6 turn 1"),
+            (down.below(Ratio(5, 2)), "in 3 out out from 3 turn 1"), (down.equals(0), "in 1 out out from 1 turn 1"),
+            (Drawn.size(1).below(Ratio(5, 2)), "in 5/2 out out from 5/2 turn 1"), ((down | 3).below(4), "in 4 out out from 4 turn 1"),
+            ((down & 3).at_most(2), "in 3 out out from 3 turn 1"), ((down & 3).at_most(3), "in from 0 turn 1"),
+        ):
+            self.assertEqual(str(zooms_at(claim)), text)
+
     def test_costs_do_not_hang_on_numbers(self):
         claim = Drawn.size(10 ** 30).below(10 ** 30) | Drawn.size(10 ** 30 * 2).at_least(2 * 10 ** 30 - 1)
         self.assertEqual(zooms_at(claim), Zooms.everything())
@@ -108,6 +119,7 @@ class StillTest(Case):
         beside = Drawn.size(1000, down) - 1000 * Drawn.size(1)
         self.refuses(error, zooms_at, (Drawn.size(1001) - Drawn.size(2)).at_most(1))
         self.refuses(error, zooms_at, (beside + Drawn.size(3, down)).at_most(1))
+        self.refuses(error, zooms_at, (thousand - Drawn.size(1, Rounding(Ratio(1, 3)))).at_most(1))
         self.assertEqual(len(zooms_at((Drawn.size(999) - 999 * Drawn.size(1)).at_most(0)).marks), 2)
         self.refuses(error, zooms_at, (Drawn.size(LONG) - Drawn.size(LONG - 1)).at_most(1))
         # Edges step at other zooms at other scrolls.
@@ -147,6 +159,22 @@ class StillTest(Case):
             (drift.at_least(0) & drift.at_most(0) | drift.above(Ratio(1, 3)), "out 1/2 in in 2/3 out out 1 in out from 0 turn 1"),
         ):
             self.assertEqual(str(zooms_at(claim)), text)
+        # Several atoms change their truths between the same two steps.
+        low, high = drift.at_most(Ratio(1, 3)), drift.at_least(Ratio(1, 5))
+        rising = (Drawn.true(1) - Drawn.size(1)).at_most(Ratio(-1, 4))
+        for claim, text in (
+            (low & high, "out 2/3 in in 4/5 in out from 0 turn 1"), (low | ~high, "in 1/2 out out 2/3 in in from 0 turn 1"),
+            (~low | ~high, "in 2/3 out out 4/5 out in from 0 turn 1"), (low & high & rising, "out 2/3 in in 3/4 in out from 0 turn 1"),
+            (~rising | high & low, "in 1/2 out out 2/3 in in from 0 turn 1"),
+            (drift.equals(Ratio(1, 3)) | drift.equals(Ratio(1, 5)) | drift.equals(Ratio(1, 4)) | drift.equals(Ratio(-1, 4)),
+             "out 1/4 in out 2/3 in out 3/4 in out 4/5 in out from 0 turn 1"),
+        ):
+            self.assertEqual(str(zooms_at(claim)), text)
+        # The zoom of the change moves from turn to turn, far away.
+        far = zooms_at((Drawn.size(2) - Drawn.true(1)).at_most(10 ** 6))
+        for at in (Fraction(part, 60) for part in range(-150, 150)):
+            place = 10 ** 6 + at
+            self.assertIs(ratio(place) in far, holds(("<=", total((1, size(2)), (1, ("true", -1, 0)), (-1, told(10 ** 6)))), place, 0))
         slow = Drawn.size(10) - Drawn.true(9)
         ended = zooms_at(slow.at_most(3))
         for at in (Fraction(7, 2), Fraction(5, 2), Fraction(26, 10), Fraction(3), Fraction(34, 10), Fraction(29, 10)):
