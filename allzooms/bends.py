@@ -72,3 +72,45 @@ def piece_ends(row):
     """The pieces of a row with their ends: (begin, end, slope, base); the last end is None."""
     ends = [start for start, _, _ in row[1:]] + [None]
     return [(piece[0], end, piece[1], piece[2]) for piece, end in zip(row, ends)]
+
+
+def truth_story(row, more):
+    """When a row and so much more is at most 0: pairs (turn, whether), from this turn on."""
+    return merged([pair for begin, end, slope, base in piece_ends(row)
+                   for pair in at_most_zero(slope, base + more, begin, end)])
+
+
+def merged(pairs):
+    """The tuple of pairs (turn, value) without those that go on as the one ahead of them."""
+    kept = []
+    for turn, value in pairs:
+        if not kept or kept[-1][1] != value:
+            kept.append((turn, value))
+    return tuple(kept)
+
+
+def zero_turn(begin, end, slope, base):
+    """The one turn of a piece in which it is 0, None if there is none or all are."""
+    if slope == 0 or base % slope != 0:
+        return None
+    turn = -base // slope
+    return turn if turn >= begin and (end is None or turn < end) else None
+
+
+def zero_changes(row):
+    """The turns, from 1 on, in which a row is 0 and was not in the turn ahead, or the other way round."""
+    pairs = []
+    for begin, end, slope, base in piece_ends(row):
+        turn = zero_turn(begin, end, slope, base)
+        if turn is None or turn > begin:
+            pairs.append((begin, slope == 0 and base == 0))
+        if turn is not None:
+            pairs.append((turn, True))
+            if end is None or turn + 1 < end:
+                pairs.append((turn + 1, False))
+    return [turn for turn, _ in merged(pairs)[1:]]
+
+
+def value_at(pairs, turn):
+    """What pairs (turn, value) tell of a turn."""
+    return [value for start, value in pairs if start <= turn][-1]

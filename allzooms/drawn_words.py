@@ -6,7 +6,7 @@ The steps are tuples. These put something on the stack: ("number", ratio), ("edg
 """
 
 from allzooms.ratios import told_number
-from allzooms.roundings import told_rounding
+from allzooms.rounding_words import take_rounding
 from allzooms.words import Words, whole_number
 
 MEMBERS = ("edge", "size", "true", "(")
@@ -120,19 +120,8 @@ class DrawnWords:
             self.reader.take("and")
             self.steps.append((word, unit, self.reader.integer()))
         else:
-            self.steps.append((word, unit, self.read_rounding()))
+            self.steps.append((word, unit, take_rounding(self.reader)))
         return self.put_member(factor, is_first)
-
-    def read_rounding(self):
-        kind = self.reader.ahead()
-        if kind != "from" and kind != "above":
-            self.reader.refuse()
-        self.reader.take(kind)
-        rounding = told_rounding(kind, self.reader.ahead())
-        if rounding is None:
-            self.reader.refuse()
-        self.reader.take(self.reader.ahead())
-        return rounding
 
     def put_member(self, factor, is_first):
         if factor != 1:

@@ -20,6 +20,27 @@ def common_unit(terms):
     return shared or 1
 
 
+def cut_points(steps, divisor):
+    """The zooms of the first turn at which unit z - shift is whole for one of the steps (unit, shift).
+
+    They are told ascending, in integers, with how many of these go to a whole zoom; no unit is 0.
+    """
+    scale = divisor
+    for unit, shift in steps:
+        if abs(unit) > MOST_CUTS * divisor:
+            raise TooMany("cuts", MOST_CUTS)
+        scale = lcm(scale, unit * shift.under)
+    found = {}
+    for unit, shift in steps:
+        width = scale // abs(unit)
+        begin = shift.over * (scale // (unit * shift.under)) % width
+        for many in range(abs(unit) // divisor):
+            found[(begin or width) + many * width] = True
+        if len(found) > MOST_CUTS:
+            raise TooMany("cuts", MOST_CUTS)
+    return scale, sorted([int(place) for place in found])
+
+
 class Grid:
     """The cells; zooms are counted in integers, `scale` for each whole zoom."""
 
@@ -28,31 +49,14 @@ class Grid:
         self.divisor = common_unit(terms)
         self.indexes = {}
         self.rows = []
-        self.scale = self.divisor
         for unit, moves, rounding in terms:
-            if abs(unit) > MOST_CUTS * self.divisor:
-                raise TooMany("cuts", MOST_CUTS)
             shift = rounding.threshold - scroll if moves else rounding.threshold
             self.indexes[f"{unit} {moves} {rounding}"] = len(self.rows)
             self.rows.append((unit, shift, rounding.is_from))
-            if unit != 0:
-                self.scale = lcm(self.scale, unit * shift.under)
-        self.points = self.cut_points()
+        steps = [(unit, shift) for unit, shift, _ in self.rows if unit != 0]
+        self.scale, self.points = cut_points(steps, self.divisor)
         if not self.points or self.points[-1] * self.divisor < self.scale:
             self.points.append(self.scale // self.divisor)
-
-    def cut_points(self):
-        """The zooms of the first turn at which a term steps, ascending, in integers."""
-        found = {}
-        for unit, shift, _ in self.rows:
-            if unit != 0:
-                width = self.scale // abs(unit)
-                begin = shift.over * (self.scale // (unit * shift.under)) % width
-                for many in range(abs(unit) // self.divisor):
-                    found[(begin or width) + many * width] = True
-            if len(found) > MOST_CUTS:
-                raise TooMany("cuts", MOST_CUTS)
-        return sorted([int(place) for place in found])
 
     def index_of(self, term):
         """The index of a term."""
@@ -76,6 +80,18 @@ class Grid:
             pixels.append(over // under + 1 if is_up else -(-over // under))
         return pixels
 
+    def unit_of(self, term):
+        """By how much a term is more for one more whole zoom."""
+        return term.unit
+
+    def rise_of(self, drawn):
+        """By how much the true part is more for one more whole zoom."""
+        return drawn.true_part[0]
+
+    def amount_of(self, drawn):
+        """What is drawn but for its terms, its choices and where its zoom lies."""
+        return drawn.amount + self.scroll * drawn.true_part[1]
+
 
 def common_scale(grid, atoms):
     """A whole multiple of the grid's scale and of the lower parts of all numbers in atoms."""
@@ -84,28 +100,3 @@ def common_scale(grid, atoms):
         for number in drawn.numbers:
             scale = lcm(scale, number.under)
     return scale
-
-
-class Shape:
-    """Something drawn, in integers: all worths are told `scale` times."""
-
-    def __init__(self, drawn, grid, scale):
-        self.scale = scale
-        self.rise = drawn.true_part[0]
-        self.amount = exactly(drawn.amount + grid.scroll * drawn.true_part[1], scale)
-        self.counts = [(grid.index_of(term), count) for term, count in drawn.term_rows]
-        grown = self.rise + sum([term.unit * count for term, count in drawn.term_rows])
-        self.slope = grown * (scale // grid.divisor)
-        self.choices = []
-        for choice, count in drawn.choice_rows:
-            shapes = [Shape(member, grid, scale) for member in choice.members]
-            self.choices.append((shapes, choice.sign == "|", count))
-
-    def base(self, pixels):
-        """What it is in the first turn but for its choices and where its zoom lies."""
-        return self.amount + self.scale * sum([pixels[index] * count for index, count in self.counts])
-
-
-def exactly(number, scale):
-    """A Ratio so many times, which is an integer."""
-    return number.over * (scale // number.under)

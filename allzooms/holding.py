@@ -7,23 +7,14 @@ as triples (place, truth at it, truth right behind it), the places counted from 
 
 from math import lcm
 
-from allzooms.bends import at_most_zero, piece_ends, row_bound, row_sum
+from allzooms.bends import at_most_zero, piece_ends, value_at
+from allzooms.claim_checks import atom_text
 from allzooms.errors import TooMany
-from allzooms.grid import Shape, common_scale
+from allzooms.grid import common_scale
 from allzooms.rounds import changing
+from allzooms.shapes import Shape, shape_row
 
 MOST_MARKS = 3000
-
-
-def shape_row(shape, pixels):
-    """What a shape is on a cell from turn to turn [bends.py], but for where its zoom lies."""
-    row = [(0, shape.slope, shape.base(pixels))]
-    for members, is_greater, count in shape.choices:
-        bound = shape_row(members[0], pixels)
-        for member in members[1:]:
-            bound = row_bound(bound, shape_row(member, pixels), is_greater)
-        row = row_sum(row, bound, count)
-    return row
 
 
 def settled(claim, truths):
@@ -56,7 +47,7 @@ class Atom:
     def truth_changes(self, low, high, pixels):
         """Pairs (turn, truth) on a cell; for a truth that changes within, (slope, base) stand in its place."""
         changes = []
-        row = shape_row(self.shape, pixels)
+        row = shape_row(self.shape, pixels, None)
         for begin, end, slope, base in piece_ends(row):
             ends = (base + self.lift * low, base + self.lift * high)
             if ends[0] == ends[1]:
@@ -81,11 +72,6 @@ class Atom:
         return changes
 
 
-def value_at(pairs, turn):
-    """What pairs (turn, value) tell of a turn."""
-    return [value for start, value in pairs if start <= turn][-1]
-
-
 class Holding:
     """The atoms of a claim on the cells of a grid."""
 
@@ -97,7 +83,7 @@ class Holding:
         self.atoms_told = {}
         self.rises = 1
         for drawn, is_strict in atoms:
-            told = f"{drawn} < 0" if is_strict else f"{drawn} <= 0"
+            told = atom_text(drawn, is_strict)
             self.atoms_told[told] = Atom(told, drawn, is_strict, grid, scale)
             self.rises = lcm(self.rises, self.atoms_told[told].shape.rise or 1)
         # Places at which truths change within a cell are integers, too, if counted like this.

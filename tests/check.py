@@ -4,9 +4,13 @@ import unittest
 
 from allzooms.drawn import Claim, Drawn
 from allzooms.errors import SnapError
+from allzooms.most import Endless, Most
 from allzooms.pages import Box, Page
 from allzooms.ratios import Ratio
 from allzooms.roundings import Rounding
+from allzooms.screens import Screen
+from allzooms.views import Always, Broken
+from allzooms.ways import AtLeast, ByEdges, InRow, Style, draw
 from allzooms.zooms import Zooms
 
 LONG = 10 ** 31 - 1
@@ -20,7 +24,10 @@ def any_values():
         lambda number: number, Ratio(1, 2), Ratio(0), Ratio(-3), Ratio(LONG, LONG - 1), Rounding.half_up(),
         Drawn.edge(1), Drawn.plain(2), Drawn.true(1, 1), Claim.of(True), Drawn.size(1).at_most(1),
         Zooms.everything(), Zooms.between(1, 2), Box("a", 0, 1), Page(), Page(Box("b", 0, 1)), SnapError,
-        ((1, True, False),), [[1], {"x": (2, None)}],
+        ((1, True, False),), [[1], {"x": (2, None)}], Always((Ratio(0), Ratio(1)), (0,)), Always(None, "x"),
+        Broken(Ratio(1), Ratio(0)), Broken(None, []), Endless(1), Most(Ratio(1), True, 1, 0, (Ratio(0), Ratio(1)), (0,)),
+        ByEdges(), AtLeast(InRow(), 3), Style(ByEdges()), Style(InRow(), a=ByEdges()), draw(Page(), Style(ByEdges())),
+        draw(Page(Box("a", 0, 1)), Style(InRow())), Screen(Page(Box("a", 0, 1)), Style(InRow())),
     ]
 
 

@@ -99,7 +99,7 @@ class FormTest(unittest.TestCase):
             self.assertLessEqual(node.end_lineno - node.lineno + 1, 40, (name, node.name))
             self.assertIsNone(node.returns)
             for decorator in node.decorator_list:
-                self.assertIn(ast.unparse(decorator), ("property", "staticmethod", "classmethod"))
+                self.assertIn(ast.unparse(decorator), ("property", "staticmethod", "classmethod", f"{node.name}.setter"))
             for argument in [*node.args.args, *node.args.kwonlyargs]:
                 self.assertIsNone(argument.annotation)
             if node.name.startswith("__"):
@@ -172,10 +172,10 @@ class FormTest(unittest.TestCase):
         self.assertEqual(kept & set(NOT_ATTRIBUTES), set())
         self.assertEqual((plain | fixed | properties) & set(METHODS), set())
         called = {node.func.attr for _, node in nodes(ast.Call) if isinstance(node.func, ast.Attribute)}
-        self.assertEqual(called - plain - fixed - set(METHODS) - {"__init__"}, set())
+        self.assertEqual(called - plain - fixed - set(METHODS) - {"__init__", "setter"}, set())
         read = {node.attr for _, node in nodes(ast.Attribute) if isinstance(node.ctx, ast.Load)}
         values = {part.targets[0].id for one in classes() for part in one.body if isinstance(part, ast.Assign)}
-        self.assertEqual(read - kept - plain - fixed - properties - values - set(METHODS) - {"__init__"}, set())
+        self.assertEqual(read - kept - plain - fixed - properties - values - set(METHODS) - {"__init__", "setter"}, set())
 
     def test_statements_and_expressions(self):
         for name, node in nodes(*BARRED):

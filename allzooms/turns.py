@@ -1,0 +1,130 @@
+"""What holds at faces from turn to turn.
+
+A story is a tuple of pairs (turn, truth): from this turn on, up to the next pair. A change is a turn in
+which, at some face, an atom has another truth than in the turn ahead, or a choice other members that
+are its greatest ones (its least ones).
+"""
+
+from math import lcm
+
+from allzooms.bends import truth_story, value_at
+from allzooms.claim_checks import atom_text
+from allzooms.errors import TooMany
+from allzooms.faces import Cell, Frame
+from allzooms.holding import settled
+from allzooms.shapes import Shape, shape_row
+
+MOST_TURNS = 200
+
+
+def telling_turns(changes):
+    """Turns that tell of all others: 0, those with a change, and the ones ahead of these."""
+    turns = [0, *changes, *[turn - 1 for turn in changes]]
+    return tuple(sorted(set([int(turn) for turn in turns])))
+
+
+class Watched:
+    """Something drawn, and what it is at faces."""
+
+    def __init__(self, drawn, frame):
+        self.scale = frame.divisor
+        for number in drawn.numbers:
+            self.scale = lcm(self.scale, number.under)
+        self.shape = Shape(drawn, frame, self.scale)
+        self.pull = drawn.true_part[1]
+        self.has_true_part = drawn.has_true
+        self.indexes = [frame.index_of(term) for term in drawn.unlike_terms]
+        self.known = {}
+
+    def row(self, face, changes):
+        """What it is at a face from turn to turn [bends.py], but for the true part in the first turn."""
+        key = self.pixels_key(face)
+        if key not in self.known:
+            self.known[key] = shape_row(self.shape, face.pixels, changes)
+        return self.known[key]
+
+    def pixels_key(self, face):
+        """What its terms are at a face."""
+        pixels = face.pixels
+        return tuple([pixels[index] for index in self.indexes])
+
+    def true_bounds(self, face):
+        """The least and the greatest limit of the true part at the corners of a face in the first turn.
+
+        They are told as many times as the shape's worths, and both as many times as is told behind them.
+        """
+        low, high = face.bounds(self.shape.rise, self.pull)
+        return low * self.scale, high * self.scale, face.cell.scale
+
+    def excess(self, face, is_strict):
+        """What is to be added to its row, so that the sum is at most 0 exactly if an atom of it holds at a face."""
+        if not self.has_true_part:
+            return 1 if is_strict else 0
+        low, high, under = self.true_bounds(face)
+        # What is not level only comes near to its bound: it is below 0 where the bound is 0.
+        return high // under + 1 if is_strict and low == high else -(-high // under)
+
+
+class FaceAtom:
+    """An atom of a claim, and when it holds at faces."""
+
+    def __init__(self, drawn, is_strict, frame):
+        self.told = atom_text(drawn, is_strict)
+        self.is_strict = is_strict
+        self.watched = Watched(drawn, frame)
+        self.known = {}
+
+    def story(self, face, changes):
+        """When it holds at all views of a face."""
+        row = self.watched.row(face, changes)
+        more = self.watched.excess(face, self.is_strict)
+        key = (more, *row)
+        if key not in self.known:
+            self.known[key] = truth_story(row, more)
+        return self.known[key]
+
+
+class Survey:
+    """A claim, and when it holds at faces."""
+
+    def __init__(self, claim):
+        self.claim = claim
+        self.frame = Frame(claim.terms)
+        self.atom_rows = []
+        for drawn, is_strict in claim.atoms:
+            self.atom_rows.append(FaceAtom(drawn, is_strict, self.frame))
+        self.changes = {}
+        self.known = {}
+
+    def story(self, face):
+        """When the claim holds at all views of a face; atoms with true parts stand in an outermost "and"."""
+        stories = tuple([atom.story(face, self.changes) for atom in self.atom_rows])
+        if stories not in self.known:
+            self.known[stories] = self.joined_story(stories)
+        return self.known[stories]
+
+    def joined_story(self, stories):
+        """The story of the claim by those of its atoms."""
+        starts = {0: True}
+        for story in stories:
+            for turn, _ in story[1:]:
+                starts[turn] = True
+                self.changes[turn] = True
+        found = []
+        for start in sorted([int(turn) for turn in starts]):
+            truths = {atom.told: value_at(story, start) for atom, story in zip(self.atom_rows, stories)}
+            truth = settled(self.claim, truths)
+            if not found or found[-1][1] != truth:
+                found.append((start, truth))
+        return tuple(found)
+
+    def cell_stories(self, low, high):
+        """The faces of a cell of the frame with their stories."""
+        rows = [(face, self.story(face)) for face in Cell(self.frame, low, high).faces()]
+        if len(self.changes) > MOST_TURNS:
+            raise TooMany("turns", MOST_TURNS)
+        return rows
+
+    def last_change(self):
+        """The last turn with a change, 0 without one."""
+        return max([int(turn) for turn in self.changes], default=0)
