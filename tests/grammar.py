@@ -20,6 +20,9 @@ FORMS = {
     "EITHER": [["CLAIM", "or", "CLAIM"], ["EITHER", "or", "CLAIM"]],
     "PAGE": [["-"], ["BOXES"]],
     "BOXES": [["BOX"], ["BOXES", ";", "BOX"]],
+    "WAY": [["edges", "ROUNDING", "ROUNDING"], ["within", "ROUNDING"], ["carried", "ROUNDING"], ["row", "ROUNDING"],
+            ["least", "FROM_ONE", "WAY"]],
+    "STYLE": [["WAY"], ["STYLE", ";", "NAME", "WAY"]],
     "BOX": [["NAME", "N", "NATURAL"], ["NAME", "N", "NATURAL", "(", "BOXES", ")"]],
 }
 COUNTED = ("edge", "size", "true", "(")
@@ -45,7 +48,7 @@ def fits(symbol, words, at, begin):
     number = as_written(word)
     if symbol == "NAME":
         return is_name(word)
-    if symbol not in ("RATIO", "COUNT", "N", "NATURAL", "FROM", "ABOVE"):
+    if symbol not in ("RATIO", "COUNT", "N", "NATURAL", "FROM_ONE", "FROM", "ABOVE"):
         return word == symbol
     if number is None:
         return False
@@ -56,7 +59,7 @@ def fits(symbol, words, at, begin):
         return 0 < number <= 1
     if symbol == "ABOVE":
         return 0 <= number < 1
-    least = {"COUNT": 2, "NATURAL": 0}.get(symbol, number)
+    least = {"COUNT": 2, "NATURAL": 0, "FROM_ONE": 1}.get(symbol, number)
     return number.denominator == 1 and number >= least
 
 

@@ -1,5 +1,6 @@
 """All faces of a turn, reckoned by the tests themselves in fractions, from the words of the document."""
 
+import functools
 import math
 from fractions import Fraction
 
@@ -72,41 +73,51 @@ def follow(terms, zoom, place, other):
     return lines.pop()
 
 
-def faces_of_cell(terms, low, high, turn):
-    """The faces of a cell of zooms, in a turn."""
+def shapes_of_cell(terms, low, high):
+    """The faces of a cell of zooms in the first turn: a middle, corners, as (zoom, moved scroll), and an area."""
     middle = (low + high) / 2
+    ends = sorted({low, high})
+    places = places_at(terms, middle)
+    if not places:
+        return [((middle, Fraction(0)), [(end, Fraction(0)) for end in ends], high - low)]
+    lines = [[(end, follow(terms, middle, place, end)) for end in ends] for place in places]
+    lines.append([(end, moved + 1) for end, moved in lines[0]])
+    faces = []
+    for at, place in enumerate(places):
+        beside = places[at + 1] if at + 1 < len(places) else places[0] + 1
+        area = (high - low) * sum(other[1] - one[1] for one, other in zip(lines[at], lines[at + 1])) / 2
+        faces.append(((middle, place), lines[at], 0))
+        faces.append(((middle, (place + beside) / 2), lines[at] + lines[at + 1], area))
+    return faces
+
+
+def placed(terms, shapes, turn):
+    """The faces in a turn."""
     later = Fraction(turn, divisor(terms))
     least = least_unit(terms)
 
     def seen(zoom, moved):
         return zoom + later, moved - least * (zoom + later)
 
-    places = places_at(terms, middle)
-    if not places:
-        return [PlainFace(seen(middle, Fraction(0)), [seen(end, Fraction(0)) for end in sorted({low, high})], high - low)]
-    faces = []
-    for at, place in enumerate(places):
-        ends = [(end, follow(terms, middle, place, end)) for end in sorted({low, high})]
-        faces.append(PlainFace(seen(middle, place), [seen(*end) for end in ends], 0))
-        beside = places[at + 1] if at + 1 < len(places) else places[0] + 1
-        others = [(end, follow(terms, middle, beside, end)) for end in sorted({low, high})]
-        area = (high - low) * sum(other[1] - one[1] for one, other in zip(ends, others)) / 2
-        faces.append(PlainFace(seen(middle, (place + beside) / 2), [seen(*end) for end in ends + others], area))
-    return faces
+    return [PlainFace(seen(*middle), [seen(*corner) for corner in corners], area) for middle, corners, area in shapes]
 
 
-def cells(terms):
-    """The cells of a turn: stretches and zooms."""
+def faces_of_cell(terms, low, high, turn):
+    """The faces of a cell of zooms, in a turn."""
+    return placed(terms, shapes_of_cell(terms, low, high), turn)
+
+
+@functools.lru_cache(maxsize=4)
+def all_shapes(terms):
+    """The faces of the first turn, cell by cell."""
     turn = Fraction(1, divisor(terms))
     ends = [Fraction(0)] + cut_list(terms)
     if ends[-1] != turn:
         ends.append(turn)
-    found = []
-    for low, high in zip(ends, ends[1:]):
-        found += [(low, high), (high, high)]
-    return found
+    bounds = [bound for low, high in zip(ends, ends[1:]) for bound in ((low, high), (high, high))]
+    return [shapes_of_cell(terms, low, high) for low, high in bounds]
 
 
 def all_faces(terms, turn):
     """All faces of a turn, cell by cell."""
-    return [faces_of_cell(terms, low, high, turn) for low, high in cells(terms)]
+    return [placed(terms, shapes, turn) for shapes in all_shapes(frozenset(terms))]

@@ -5,7 +5,6 @@ Things are nested tuples: ("edge", unit, rounding), ("size", unit, rounding), ("
 ("<=", thing), ("<", thing), ("and", claims), ("or", claims). A rounding is (threshold, is_from).
 """
 
-import math
 from fractions import Fraction
 
 from allzooms.drawn import Drawn
@@ -25,7 +24,7 @@ def fraction(value):
 def rounded(rounding, place):
     """The pixel of a place."""
     threshold, is_from = rounding
-    whole = math.floor(place)
+    whole = place.numerator // place.denominator
     left = place - whole
     return whole + (1 if (left >= threshold if is_from else left > threshold) else 0)
 
