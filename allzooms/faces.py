@@ -2,9 +2,9 @@
 
 The zooms up to a turn are parted into cells, each one a zoom or the open stretch between two zooms.
 In a cell zooms and moved scrolls are counted in integers, `scale` for each whole one. A face is told
-by its pixels, what each term is there in the first turn, and by its lines: one for a place, two for
-what lies between two places, none without moving terms. A line is a pair (unit, begin): at a zoom it
-is the moved scroll begin - unit zoom.
+by its pixels, what each term is there in the first turn, and by its borders: one line for a place, two
+for what lies between two places, none without moving terms. A line is a pair (unit, begin): at a zoom
+it is the moved scroll begin - unit zoom.
 """
 
 from math import gcd, lcm
@@ -131,18 +131,18 @@ class Cell:
 class Face:
     """A face of a cell."""
 
-    def __init__(self, cell, pixels, lines):
+    def __init__(self, cell, pixels, borders):
         self.cell = cell
         self.pixels = pixels
-        self.lines = lines
+        self.borders = borders
 
     def corners(self):
         """Its ends, pairs (zoom, moved scroll), in the integers of its cell."""
         low, high = self.cell.low, self.cell.high
         zooms = [low] if low == high else [low, high]
-        if not self.lines:
+        if not self.borders:
             return [(zoom, 0) for zoom in zooms]
-        return [(zoom, begin - unit * zoom) for zoom in zooms for unit, begin in self.lines]
+        return [(zoom, begin - unit * zoom) for zoom in zooms for unit, begin in self.borders]
 
     def bounds(self, rise, pull):
         """The least and the greatest one of rise zoom + pull scroll at the corners, in the cell's integers."""
@@ -152,11 +152,11 @@ class Face:
     def area(self):
         """Twice how much of zooms and moved scrolls it has, in the cell's integers."""
         low, high = self.cell.low, self.cell.high
-        if low == high or len(self.lines) == 1:
+        if len(self.borders) == 1:
             return 0
         wide = 2 * self.cell.scale
-        if self.lines:
-            (unit, begin), (later, end) = self.lines
+        if self.borders:
+            (unit, begin), (later, end) = self.borders
             wide = 2 * (end - begin) - (later - unit) * (low + high)
         return wide * (high - low)
 

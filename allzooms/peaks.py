@@ -24,7 +24,7 @@ class Peak:
         self.frame = Frame(drawn.terms)
         self.marks = tuple(self.frame.mark_row())
         self.watched = Watched(drawn, self.frame)
-        self.changes = {}
+        self.change_turns = {}
         self.known = {}
         self.number = None
         self.is_reached = False
@@ -33,15 +33,15 @@ class Peak:
         for low, high in cells_between(self.marks):
             for face in Cell(self.frame, low, high).faces():
                 self.climb(face)
-            if len(self.changes) > MOST_TURNS:
+            if len(self.change_turns) > MOST_TURNS:
                 raise TooMany("turns", MOST_TURNS)
-        self.turns = telling_turns(self.changes)
+        self.turns = telling_turns(self.change_turns)
 
     def climb(self, face):
         """Goes on to the peak at a face, if it is a greater one, or one that is reached."""
         key = self.watched.pixels_key(face)
         if key not in self.known:
-            self.known[key] = row_peak(self.watched.row(face, self.changes))
+            self.known[key] = row_peak(self.watched.row(face, self.change_turns))
         worth, turn = self.known[key]
         low, high, under = self.watched.true_bounds(face)
         number = Ratio(worth * under + high, self.watched.scale * under)

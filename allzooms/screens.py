@@ -1,7 +1,7 @@
 """Screens: pages that are shown at a zoom and a scroll, and change by deeds."""
 
 from allzooms.checks import check_view, is_zoom
-from allzooms.errors import BadScreen, BadZoom, NoBox, NoChange, NoZoom, SnapError
+from allzooms.errors import BadScreen, BadZoom, NoChange, NoZoom, SnapError
 from allzooms.guards import check_guard, check_guards, check_rule, guard_claim, is_guard_name, names_in_order
 from allzooms.pages import Page
 from allzooms.ratios import Ratio
@@ -33,6 +33,7 @@ class State:
 
     def __init__(self, drawing, zoom, scroll, rules):
         self.drawing = drawing
+        self.by_name = drawing.by_name
         self.zoom = zoom
         self.scroll = scroll
         self.rules = rules
@@ -181,8 +182,6 @@ class Screen:
         return self.state.pixels_now()
 
     def __getitem__(self, at):
-        if at not in self.state.drawing:
-            raise NoBox(at)
         left, right = self.state.drawing[at]
         zoom, scroll = self.state.zoom, self.state.scroll
         return left.worth(zoom, scroll).over, right.worth(zoom, scroll).over
@@ -194,7 +193,7 @@ class Screen:
         return len(self.state.drawing)
 
     def __iter__(self):
-        return iter(self.state.drawing.by_name)
+        return iter(self.state.by_name)
 
     def guard(self, name, rule):
         """Keeps a guard, which must hold now and behind all deeds to come."""

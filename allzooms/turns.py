@@ -7,7 +7,7 @@ are its greatest ones (its least ones).
 
 from math import lcm
 
-from allzooms.bends import truth_story, value_at
+from allzooms.bends import merged, truth_story, value_at
 from allzooms.claim_checks import atom_text
 from allzooms.errors import TooMany
 from allzooms.faces import Cell, Frame
@@ -93,12 +93,12 @@ class Survey:
         self.atom_rows = []
         for drawn, is_strict in claim.atoms:
             self.atom_rows.append(FaceAtom(drawn, is_strict, self.frame))
-        self.changes = {}
+        self.change_turns = {}
         self.known = {}
 
     def story(self, face):
         """When the claim holds at all views of a face; atoms with true parts stand in an outermost "and"."""
-        stories = tuple([atom.story(face, self.changes) for atom in self.atom_rows])
+        stories = tuple([atom.story(face, self.change_turns) for atom in self.atom_rows])
         if stories not in self.known:
             self.known[stories] = self.joined_story(stories)
         return self.known[stories]
@@ -109,22 +109,20 @@ class Survey:
         for story in stories:
             for turn, _ in story[1:]:
                 starts[turn] = True
-                self.changes[turn] = True
+                self.change_turns[turn] = True
         found = []
         for start in sorted([int(turn) for turn in starts]):
             truths = {atom.told: value_at(story, start) for atom, story in zip(self.atom_rows, stories)}
-            truth = settled(self.claim, truths)
-            if not found or found[-1][1] != truth:
-                found.append((start, truth))
-        return tuple(found)
+            found.append((start, settled(self.claim, truths)))
+        return merged(found)
 
     def cell_stories(self, low, high):
         """The faces of a cell of the frame with their stories."""
         rows = [(face, self.story(face)) for face in Cell(self.frame, low, high).faces()]
-        if len(self.changes) > MOST_TURNS:
+        if len(self.change_turns) > MOST_TURNS:
             raise TooMany("turns", MOST_TURNS)
         return rows
 
     def last_change(self):
         """The last turn with a change, 0 without one."""
-        return max([int(turn) for turn in self.changes], default=0)
+        return max([int(turn) for turn in self.change_turns], default=0)

@@ -130,7 +130,7 @@ def judge(claim):
             if falls and broken is None:
                 broken = (face, falls[0])
     if broken is None:
-        return Always(tuple(marks), telling_turns(survey.changes))
+        return Always(tuple(marks), telling_turns(survey.change_turns))
     zoom, scroll = broken_view(claim, broken[0], broken[1])
     return Broken(zoom, scroll)
 

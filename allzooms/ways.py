@@ -37,8 +37,9 @@ def way_of(row):
 
 def style_of(rows):
     """The style of rows that were read."""
+    way = way_of(rows[0])
     ways = {name: way_of(row) for name, row in rows[1]}
-    return Style(way_of(rows[0]), **ways)
+    return Style(way, **ways)
 
 
 def way_sides(way, spot):

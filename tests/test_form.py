@@ -2,6 +2,7 @@
 
 import ast
 import builtins
+import functools
 import pathlib
 import unittest
 
@@ -38,6 +39,7 @@ def files():
     return sorted(ROOT.glob("*.py"))
 
 
+@functools.lru_cache(maxsize=1)
 def trees():
     return [(path.name, ast.parse(path.read_text())) for path in files()]
 
@@ -204,6 +206,11 @@ class FormTest(unittest.TestCase):
             told = getattr(node.func, "id", "")
             stars = [part.value for part in node.args if isinstance(part, ast.Starred)]
             self.assertTrue(all(isinstance(part, (ast.Name, ast.Attribute)) for part in stars), (name, ast.unparse(node)))
+            if any(keyword.arg is None for keyword in node.keywords):
+                beside = [*node.args, *[keyword.value for keyword in node.keywords]]
+                self.assertTrue(all(isinstance(part, (ast.Name, ast.Attribute, ast.Constant, ast.Starred)) for part in beside),
+                                (name, ast.unparse(node)))
+                self.assertEqual(len(node.keywords), 1)
             if told in ("any", "all", "sum", "sorted", "min", "max"):
                 self.assertNotIsInstance(node.args[0], ast.GeneratorExp, name)
             if told in ("sorted", "min", "max"):

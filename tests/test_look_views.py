@@ -105,6 +105,8 @@ class LookViewsTest(Case):
         self.assertIs(shows_judge(one, Broken(Ratio(4), Ratio(0))), True)
         self.assertIs(shows_judge(Claim.of(False), Broken(Ratio(4), Ratio(0))), True)
         self.assertIs(shows_judge(Claim.of(True), Broken(Ratio(4), Ratio(0))), False)
+        for zoom in (Ratio(0), Ratio(-1), Ratio(-LONG, 7)):
+            self.assertIs(shows_judge(Claim.of(False), Broken(zoom, Ratio(0))), False)
         for value in any_values():
             self.assertIs(shows_judge(one, Broken(value, Ratio(0))), isinstance(value, Ratio) and value > Ratio(7, 2))
             self.assertIs(shows_judge(one, Broken(Ratio(9), value)), isinstance(value, Ratio))
@@ -188,6 +190,11 @@ class LookViewsTest(Case):
                                 ((0,), False), ((0, 9), False), ((0, 4, 5, 6, 99), True)):
             self.assertIs(shows_judge(bend, Always((Ratio(0), Ratio(1)), turns)), is_right, turns)
             self.assertIs(always_is_right(bend, (Ratio(0), Ratio(1)), turns), is_right)
+        # Atoms that settle nothing must not change later, either.
+        level = (Drawn.size(1, DOWN) - Drawn.size(1, Rounding.all_up())).at_most(0)
+        for atom in (Drawn.size(1, DOWN).at_most(3), Drawn.size(1, DOWN).at_least(4)):
+            for turns, is_right in (((0,), False), ((0, 1), False), ((0, 1, 2, 3, 4), True), ((0, 2, 3, 4), True), ((0, 2, 4), False), ((0, 9), False)):
+                self.assertIs(shows_judge(level | atom, Always((Ratio(0), Ratio(1)), turns)), is_right, turns)
         inner = ((Drawn.size(1, DOWN) | 5) & (Drawn.size(1, DOWN) * 2 | 3)).at_least(3)
         found = judge(inner)
         self.assertTrue(shows_judge(inner, found) and len(found.turns) > 4)

@@ -64,6 +64,17 @@ def overtaken(many):
     return bound | line
 
 
+def passed_between(many):
+    """A choice whose members pass one another between turns, so many times, five turns apart."""
+    bound = Drawn.plain(0)
+    line = 0
+    for at in range(many):
+        member = -2 * (many - at) * Drawn.size(1, DOWN) + line
+        bound = member if at == 0 else bound | member
+        line -= 10 * at + 3
+    return bound | line
+
+
 class MostTest(Case):
     def test_wrong_arguments(self):
         for work in (greatest, least, stays, lambda value: limits(value, None, None), lambda value: shows_greatest(value, None),
@@ -151,6 +162,29 @@ class MostTest(Case):
         ):
             self.assertEqual([str(one) for one in limits(drawn, place, moved)], told, (str(drawn), place, moved))
 
+    def test_each_side_of_a_point(self):
+        size, edge, half_down = Drawn.size, Drawn.edge, Rounding.half_down()
+        # 1 right of the zoom 1/2, left of it, at it; above the line 3 z + s = 1/2, below it, on it.
+        right, left = size(1, half_down) - size(1, DOWN), 1 - size(1) + size(1, DOWN)
+        above, below = edge(3, half_down) - edge(3, DOWN), 1 - edge(3) + edge(3, DOWN)
+        on_zoom, on_line = size(1) - size(1, half_down), edge(3) - edge(3, half_down)
+        for zooms in (right, left, on_zoom):
+            for places in (above, below, on_line):
+                self.assertEqual(limits(zooms & places, Ratio(1, 2), -1), (0, 1))
+        self.assertEqual(limits(on_line, 0, Ratio(1, 2)), (0, 1))
+        self.assertEqual(limits(on_zoom, 0, 0), (0,))
+        for beside in (1, 7):
+            # Between two lines that cross, on one side of the point and on the other.
+            one_place, two_place = Ratio(1, 2) - Ratio(3, 2), Ratio(1, 2) - Ratio(beside, 2)
+            self.assertEqual(one_place + Ratio(3, 2), two_place + Ratio(beside, 2))
+            other_below = 1 - edge(beside) + edge(beside, DOWN)
+            other_above = edge(beside, half_down) - edge(beside, DOWN)
+            place = Ratio(1)
+            for one in (above, below, on_line):
+                for other in (other_below, other_above):
+                    self.assertEqual(limits(one & other, place, Ratio(1, 2)), (0, 1))
+            self.assertEqual(limits(on_line & (edge(beside) - edge(beside, half_down)), place, Ratio(1, 2)), (0, 1))
+
     def test_told_bounds(self):
         size, edge, true = Drawn.size, Drawn.edge, Drawn.true
         for drawn, low, high in (
@@ -231,6 +265,9 @@ class MostTest(Case):
                 self.assertIs(shows_greatest(drawn, paper), True)
                 paper.turns = tuple(range(200))
                 self.assertIs(shows_greatest(drawn, paper), False)
+        self.assertEqual(len(greatest(passed_between(100)).turns), 300)
+        self.assertTrue(judge(passed_between(100).at_most(0)))
+        self.refuses(TURNS, greatest, passed_between(101))
         # Only choices change: an atom that is no more true does not count.
         self.assertEqual(least(Drawn.size(1)).turns, (0,))
 
@@ -289,6 +326,14 @@ class PapersTest(Case):
         if paper.zoom < 0 or paper.number not in limits(drawn, paper.zoom, paper.scroll):
             return False
         return shows_judge(drawn.below(paper.number), Always(paper.marks, paper.turns))
+
+    def test_kinds_of_a_number(self):
+        for drawn, shows, work in (((Drawn.size(1) | 4) - Drawn.size(1), shows_greatest, greatest), (Drawn.plain(7), shows_least, least)):
+            found = work(drawn)
+            self.assertIs(shows(drawn, found), True)
+            self.assertIs(shows(drawn, Most(found.number.over, True, found.zoom, found.scroll, found.marks, found.turns)), False)
+            self.assertIs(shows(drawn, Most(found.number, 1, found.zoom, found.scroll, found.marks, found.turns)), False)
+            self.assertIs(shows(drawn, Most(found.number, True, found.zoom, 0, found.marks, found.turns)), True)
 
     def test_papers_near_to_right_ones(self):
         many = {}

@@ -112,6 +112,8 @@ class ScreenTest(Case):
             self.refuses_all(error, fits, lambda value: setattr(screen, name, value))
         self.refuses_all(NoBox, lambda value: isinstance(value, str) and value in ("a", "b"), lambda value: screen[value])
         self.refuses_all(lambda value: BadScreen("name"), guard_name, lambda value: screen.guard(value, None))
+        for name in ("abcdefghi", "aB", "a1", "a b", "a\n", "_", "-"):
+            self.refuses(BadScreen("name"), screen.guard, name, Claim.of(True))
         rules = (None, True, False, 0, 3, "", "true", (), (1,), [], {}, {"a": Claim.of(True)}, [Claim.of(True)])
         for rule in rules:
             self.refuses(BadScreen("rule"), screen.guard, "a", rule)
@@ -390,6 +392,7 @@ class ZoomToTest(Case):
         screen.guard("a", lambda drawing: Claim.of(True))
         state["claim"] = None
         self.refuses(Refused("b"), screen.zoom_to, 2)
+        self.refuses_all(BadZoom, zoom, lambda value: zoom(value) or screen.zoom_to(value))
         state["claim"] = (Drawn.size(2000) - Drawn.size(1)).at_most(0)
         self.refuses(TooMany("cuts", 1000), screen.zoom_to, 2)
         state["claim"] = Claim.of(False)

@@ -178,6 +178,16 @@ class ViewsTest(Case):
         self.assertFalse(judge((Drawn.size(2) - Drawn.true(2)).below(Ratio(1, 2))))
         self.assertFalse(judge((Drawn.edge(1) - Drawn.edge(0)).below(Drawn.true(1) + 1) & Drawn.size(1).at_most(7)))
 
+    def test_a_bound_that_is_only_touched(self):
+        # One atom only comes near to its bound, the other one goes beyond its own.
+        drift = Drawn.edge(1, Rounding.half_down()) - Drawn.true(1, 1)
+        for claim in (drift.at_most(Ratio(1, 2)) & drift.at_most(Ratio(2, 5)), drift.below(Ratio(1, 2)) & drift.below(Ratio(2, 5)),
+                      drift.at_most(Ratio(1, 2)) & drift.at_most(Ratio(499999, 1000000))):
+            found = judge(claim)
+            self.assertFalse(claim(found.zoom, found.scroll))
+            self.assertIs(shows_judge(claim, found), True)
+        self.assertTrue(judge(drift.below(Ratio(1, 2)) & drift.at_least(Ratio(-1, 2))))
+
     def test_single_zooms(self):
         same = (Drawn.edge(3) - Drawn.edge(1)).equals(Drawn.size(2, DOWN))
         self.assertEqual(str(zooms_always(same)), "out 1/2 in out from 0 turn 1/2")
@@ -298,6 +308,7 @@ class ViewsTest(Case):
                 self.assertTrue(isinstance(made, Verdict) and bool(made) is is_true)
                 self.assertEqual(vars(made), {names[0]: value, names[1]: [value]})
                 self.assertTrue(made == paper(**{names[1]: [value], names[0]: value}) and made != paper([value], value))
+            self.assertFalse(paper(1, 2) == Always(3, 2) or paper(1, 2) == Broken(1, 3))
             self.assertFalse(paper(1, 2) == Always(1, 3) or paper(1, 2) == Broken(3, 2) or paper(1, 2) == (1, 2))
         self.assertFalse(Always(1, 2) == Broken(1, 2))
         self.assertTrue(Always(1, True) == Always(Ratio(1), 1))
