@@ -41,7 +41,7 @@ class Peak:
         """Goes on to the peak at a face, if it is a greater one, or one that is reached."""
         key = self.watched.pixels_key(face)
         if key not in self.known:
-            self.known[key] = row_peak(self.watched.row(face, self.change_turns))
+            self.known[key] = row_peak(self.watched.turn_row(face, self.change_turns))
         worth, turn = self.known[key]
         low, high, under = self.watched.true_bounds(face)
         number = Ratio(worth * under + high, self.watched.scale * under)

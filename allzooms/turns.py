@@ -36,7 +36,7 @@ class Watched:
         self.indexes = [frame.index_of(term) for term in drawn.unlike_terms]
         self.known = {}
 
-    def row(self, face, changes):
+    def turn_row(self, face, changes):
         """What it is at a face from turn to turn [bends.py], but for the true part in the first turn."""
         key = self.pixels_key(face)
         if key not in self.known:
@@ -76,7 +76,7 @@ class FaceAtom:
 
     def story(self, face, changes):
         """When it holds at all views of a face."""
-        row = self.watched.row(face, changes)
+        row = self.watched.turn_row(face, changes)
         more = self.watched.excess(face, self.is_strict)
         key = (more, *row)
         if key not in self.known:

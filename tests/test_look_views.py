@@ -116,7 +116,7 @@ class LookViewsTest(Case):
 
     def test_papers_near_to_right_ones(self):
         kinds = {}
-        for seed in range(110):
+        for seed in range(90):
             source = random.Random(seed)
             claim = made_claim(drawn_claim(source))
             found = judge(claim)

@@ -92,7 +92,7 @@ class MostTest(Case):
 
     def test_bounds_by_all_faces(self):
         kinds = {}
-        for seed in range(80):
+        for seed in range(60):
             source = random.Random(seed)
             thing = drawn_thing(small_drawing(source), source.random() < 0.6, source.random() < 0.8)
             drawn = made(thing)

@@ -86,7 +86,7 @@ class ViewsTest(Case):
 
     def test_judged_by_all_faces(self):
         kinds = {}
-        for seed in range(200):
+        for seed in range(160):
             source = random.Random(seed)
             tree = drawn_claim(source)
             claim = made_claim(tree)
@@ -124,7 +124,7 @@ class ViewsTest(Case):
             try:
                 always, ever, part = zooms_always(claim), zooms_ever(claim), share(claim)
             except TooMany as error:
-                self.assertTrue(error.what == "marks" and "0000000000" in text, text)
+                self.assertTrue(error.what == "marks" and ("0" * 20 in text or "9" * 20 in text), text)
                 continue
             self.assertEqual((type(always), type(ever), type(part)), (Zooms, Zooms, Ratio))
             for turn in (0, 1, source.randint(2, 9), FAR - 1, FAR, 2 * FAR):
