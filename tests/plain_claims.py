@@ -25,9 +25,9 @@ def small_drawing(source):
     return drawing
 
 
-def drawn_thing(drawing, has_true, is_level, depth=1):
-    """A thing of the scroll weight 0."""
-    return drawing.thing(drawing.source.randint(0, depth), has_true, 0, is_level)
+def drawn_thing(drawing, has_true, is_level):
+    """A thing of the scroll weight 0; at times with choices of choices."""
+    return drawing.thing(drawing.source.choice((0, 0, 0, 1, 1, 1, 1, 2)), has_true, 0, is_level)
 
 
 def claim_tree(drawing, depth):

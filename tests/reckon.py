@@ -23,27 +23,33 @@ def fraction(value):
 
 def rounded(rounding, place):
     """The pixel of a place."""
+    return rounded_part(rounding, place.numerator, place.denominator)
+
+
+def rounded_part(rounding, over, under):
+    """The pixel of over / under, in integers, as fractions take long."""
     threshold, is_from = rounding
-    whole = place.numerator // place.denominator
-    left = place - whole
-    return whole + (1 if (left >= threshold if is_from else left > threshold) else 0)
+    whole = over // under
+    left, bound = (over - whole * under) * threshold.denominator, threshold.numerator * under
+    return whole + (1 if (left >= bound if is_from else left > bound) else 0)
 
 
 def worth(thing, zoom, scroll):
     """What is drawn at a view."""
     kind = thing[0]
     if kind == "edge":
-        return rounded(thing[2], thing[1] * zoom + scroll)
+        over, under = thing[1] * zoom.numerator, zoom.denominator
+        return rounded_part(thing[2], over * scroll.denominator + scroll.numerator * under, under * scroll.denominator)
     if kind == "size":
-        return rounded(thing[2], thing[1] * zoom)
+        return rounded_part(thing[2], thing[1] * zoom.numerator, zoom.denominator)
     if kind == "number":
-        return thing[1]
+        return thing[1].numerator if thing[1].denominator == 1 else thing[1]
     if kind == "true":
         return thing[1] * zoom + thing[2] * scroll
     if kind == "sum":
-        return sum(count * worth(part, zoom, scroll) for count, part in thing[1])
+        return sum([count * worth(part, zoom, scroll) for count, part in thing[1]])
     bound = max if kind == "|" else min
-    return bound(worth(part, zoom, scroll) for part in thing[1])
+    return bound([worth(part, zoom, scroll) for part in thing[1]])
 
 
 def holds(claim, zoom, scroll):
