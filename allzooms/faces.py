@@ -108,7 +108,7 @@ class Cell:
             steps.setdefault(place, []).append((index, is_from))
         places = sorted([int(place) for place in lines])
         if not places:
-            return [Face(self, pixels, ())]
+            return [Face(self, pixels, (), [])]
         return self.faces_between([lines[place] for place in places], [steps[place] for place in places], pixels)
 
     def faces_between(self, lines, steps, pixels):
@@ -122,8 +122,8 @@ class Cell:
                 behind[index] += 1
                 if is_from:
                     at[index] += 1
-            faces.append(Face(self, at, (line,)))
-            faces.append(Face(self, behind, (line, later)))
+            faces.append(Face(self, at, (line,), [index for index, is_from in row if is_from]))
+            faces.append(Face(self, behind, (line, later), [index for index, is_from in row if not is_from]))
             pixels = behind
         return faces
 
@@ -131,10 +131,13 @@ class Cell:
 class Face:
     """A face of a cell."""
 
-    def __init__(self, cell, pixels, borders):
+    def __init__(self, cell, pixels, borders, stepped):
         self.cell = cell
         self.pixels = pixels
         self.borders = borders
+        # The indexes of the terms that are other ones than on the face ahead in the same cell.
+        self.stepped = stepped
+        self.known = {}
 
     def corners(self):
         """Its ends, pairs (zoom, moved scroll), in the integers of its cell."""
@@ -146,8 +149,10 @@ class Face:
 
     def bounds(self, rise, pull):
         """The least and the greatest one of rise zoom + pull scroll at the corners, in the cell's integers."""
-        limits = [rise * zoom + pull * moved for zoom, moved in self.corners()]
-        return min([int(limit) for limit in limits]), max([int(limit) for limit in limits])
+        if (rise, pull) not in self.known:
+            limits = [rise * zoom + pull * moved for zoom, moved in self.corners()]
+            self.known[(rise, pull)] = (min([int(limit) for limit in limits]), max([int(limit) for limit in limits]))
+        return self.known[(rise, pull)]
 
     def area(self):
         """Twice how much of zooms and moved scrolls it has, in the cell's integers."""

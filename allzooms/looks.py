@@ -3,7 +3,7 @@
 from allzooms.claim_checks import atom_text
 from allzooms.faces import Cell, cells_between
 from allzooms.holding import settled
-from allzooms.turns import Watched
+from allzooms.turns import Faced, Watched
 
 
 def seen_row(shape, pixels, turns):
@@ -53,7 +53,7 @@ class LookedAtom:
         self.turns = turns
         self.known = {}
 
-    def truths(self, face):
+    def at_face(self, face):
         """Whether it holds at all of a face, turn by turn; None if these turns do not tell of all others."""
         more = self.watched.excess(face, self.is_strict)
         key = (more, self.watched.pixels_key(face))
@@ -83,22 +83,18 @@ class Look:
         self.frame = frame
         self.turns = turns
         self.atom_rows = [LookedAtom(drawn, is_strict, frame, turns) for drawn, is_strict in claim.atoms]
+        self.faced = Faced(self.atom_rows, frame)
         self.known = {}
 
     def holds_between(self, marks):
         """Whether the turns show that the claim holds at all faces between the marks."""
         for low, high in cells_between(marks):
-            for face in Cell(self.frame, low, high).faces():
-                if not self.holds_at_face(face):
+            for rows in self.faced.told_at(Cell(self.frame, low, high).faces()):
+                if rows not in self.known:
+                    self.known[rows] = None not in rows and self.holds_in_turns(rows)
+                if not self.known[rows]:
                     return False
         return True
-
-    def holds_at_face(self, face):
-        """Whether they show that it holds at a face."""
-        rows = tuple([atom.truths(face) for atom in self.atom_rows])
-        if rows not in self.known:
-            self.known[rows] = None not in rows and self.holds_in_turns(rows)
-        return self.known[rows]
 
     def holds_in_turns(self, rows):
         """Whether the claim holds in all turns, by the truths of its atoms."""

@@ -65,18 +65,50 @@ class Watched:
         return high // under + 1 if is_strict and low == high else -(-high // under)
 
 
+class Faced:
+    """The atoms of a claim, and what they tell at faces; each atom has what it watches, and `at_face`."""
+
+    def __init__(self, atom_rows, frame):
+        self.atom_rows = atom_rows
+        # Which atoms can tell another thing at each face, and which if a term is another one.
+        self.always = [at for at, atom in enumerate(atom_rows) if atom.watched.has_true_part]
+        self.by_term = [[] for _ in frame.rows]
+        for at, atom in enumerate(atom_rows):
+            if not atom.watched.has_true_part:
+                for index in atom.watched.indexes:
+                    self.by_term[index].append(at)
+
+    def told_at(self, faces):
+        """What the atoms tell at the faces of a cell, a tuple for each of these."""
+        parts = []
+        found = []
+        for face in faces:
+            if not found:
+                parts = [atom.at_face(face) for atom in self.atom_rows]
+            else:
+                for at in self.due(face):
+                    parts[at] = self.atom_rows[at].at_face(face)
+            found.append(tuple(parts))
+        return found
+
+    def due(self, face):
+        """The atoms that can tell another thing at a face than at the one ahead in its cell."""
+        return [*self.always, *[at for index in face.stepped for at in self.by_term[index]]]
+
+
 class FaceAtom:
     """An atom of a claim, and when it holds at faces."""
 
-    def __init__(self, drawn, is_strict, frame):
+    def __init__(self, drawn, is_strict, frame, change_turns):
         self.told = atom_text(drawn, is_strict)
         self.is_strict = is_strict
         self.watched = Watched(drawn, frame)
+        self.change_turns = change_turns
         self.known = {}
 
-    def story(self, face, changes):
-        """When it holds at all views of a face."""
-        row = self.watched.turn_row(face, changes)
+    def at_face(self, face):
+        """Its story: when it holds at all views of a face."""
+        row = self.watched.turn_row(face, self.change_turns)
         more = self.watched.excess(face, self.is_strict)
         key = (more, *row)
         if key not in self.known:
@@ -85,23 +117,26 @@ class FaceAtom:
 
 
 class Survey:
-    """A claim, and when it holds at faces."""
+    """A claim, and when it holds at faces; atoms with true parts stand in its outermost "and"."""
 
     def __init__(self, claim):
         self.claim = claim
         self.frame = Frame(claim.terms)
-        self.atom_rows = []
-        for drawn, is_strict in claim.atoms:
-            self.atom_rows.append(FaceAtom(drawn, is_strict, self.frame))
         self.change_turns = {}
+        self.atom_rows = [
+            FaceAtom(drawn, is_strict, self.frame, self.change_turns) for drawn, is_strict in claim.atoms
+        ]
+        self.faced = Faced(self.atom_rows, self.frame)
         self.known = {}
 
-    def story(self, face):
-        """When the claim holds at all views of a face; atoms with true parts stand in an outermost "and"."""
-        stories = tuple([atom.story(face, self.change_turns) for atom in self.atom_rows])
-        if stories not in self.known:
-            self.known[stories] = self.joined_story(stories)
-        return self.known[stories]
+    def stories(self, faces):
+        """When the claim holds at all views of each of the faces of a cell."""
+        found = []
+        for parts in self.faced.told_at(faces):
+            if parts not in self.known:
+                self.known[parts] = self.joined_story(parts)
+            found.append(self.known[parts])
+        return found
 
     def joined_story(self, stories):
         """The story of the claim by those of its atoms."""
@@ -118,10 +153,11 @@ class Survey:
 
     def cell_stories(self, low, high):
         """The faces of a cell of the frame with their stories."""
-        rows = [(face, self.story(face)) for face in Cell(self.frame, low, high).faces()]
+        faces = Cell(self.frame, low, high).faces()
+        stories = self.stories(faces)
         if len(self.change_turns) > MOST_TURNS:
             raise TooMany("turns", MOST_TURNS)
-        return rows
+        return list(zip(faces, stories))
 
     def last_change(self):
         """The last turn with a change, 0 without one."""

@@ -143,7 +143,8 @@ def holds_at(claim, zoom):
     check_outermost(claim)
     survey = Survey(claim)
     place = Ratio.of(zoom)
-    return all([survey.story(face)[0][1] for face in Cell(survey.frame, place, place).faces()])
+    stories = survey.stories(Cell(survey.frame, place, place).faces())
+    return all([story[0][1] for story in stories])
 
 
 def zooms_always(claim):
