@@ -4,7 +4,7 @@ from fractions import Fraction
 
 from allzooms.ratios import Ratio
 from tests.plain_claims import own_terms
-from tests.plain_faces import cut_list, divisor, least_unit, placed, shapes_of_cell
+from tests.plain_faces import all_shapes, cut_list, divisor, least_unit, placed, shapes_of_cell
 from tests.reckon import fraction, rounded
 
 
@@ -90,6 +90,21 @@ class Seen:
             if grown is None or (grown > 0 if self.atom_holds(drawn, is_strict, faces[-1]) else grown < 0):
                 return False
         return True
+
+
+def plain_changes(claim, turns):
+    """The turns, up to so many, in which an atom has another truth or a choice other leaders than a turn ahead."""
+    terms = own_terms(claim)
+    seen = Seen(terms)
+    found = set()
+    for shapes in all_shapes(frozenset(terms)):
+        rows = [placed(terms, shapes, turn) for turn in range(turns)]
+        for faces in zip(*rows):
+            for drawn, is_strict in claim.atoms:
+                states = [(seen.atom_holds(drawn, is_strict, face), [seen.leaders(choice, face.view) for choice in seen.choices(drawn)])
+                          for face in faces]
+                found |= {turn for turn in range(1, turns) if states[turn] != states[turn - 1]}
+    return found
 
 
 def is_ascending(values, kind, least, most):

@@ -4,15 +4,18 @@ from fractions import Fraction
 
 from allzooms.drawn import Claim, Drawn
 from allzooms.errors import BadClaim, BadZoom, TooMany
+from allzooms.faces import cells_between
 from allzooms.look_views import shows_judge
 from allzooms.ratios import Ratio
 from allzooms.roundings import Rounding
 from allzooms.still import zooms_at
+from allzooms.turns import Survey
 from allzooms.views import Always, Broken, Verdict, cuts, holds_at, judge, share, turn_of, zooms_always, zooms_ever
 from allzooms.zooms import Zooms
 from tests.check import LONG, Case, any_values, zoom
-from tests.plain_claims import FAR, drawn_claim, holds_at_all, later_claim, own_terms, plain_at, plain_share
+from tests.plain_claims import FAR, drawn_claim, holds_at_all, later_claim, own_terms, plain_at, plain_share, small_drawing
 from tests.plain_faces import all_faces, cut_list, divisor
+from tests.plain_papers import plain_changes
 from tests.reckon import fraction, holds, made_claim, ratio
 
 DOWN = Rounding.all_down()
@@ -299,6 +302,23 @@ class ViewsTest(Case):
         self.refuses(CUTS, judge, many & steps(1, 300))
         self.refuses(TURNS, zooms_always, steps(1, 300) & (wave() | Drawn.size(1).at_least(10 ** 9)))
         self.refuses(BadClaim("true"), zooms_ever, many & Drawn.true(1).at_most(0))
+
+    def test_changes_by_all_turns(self):
+        many = 0
+        for seed in range(60):
+            source = random.Random(seed)
+            drawing = small_drawing(source)
+            thing = drawing.thing(source.choice((1, 1, 2)), source.random() < 0.4, 0, source.random() < 0.3)
+            claim = made_claim((source.choice(("<=", "<")), thing))
+            if len(own_terms(claim)) > 5 or len(cuts(claim)) > 9:
+                continue
+            survey = Survey(claim)
+            for low, high in cells_between(survey.frame.mark_row()):
+                survey.cell_stories(low, high)
+            found = plain_changes(claim, 14)
+            self.assertEqual({turn for turn in survey.change_turns if turn < 14}, found, (seed, str(claim)))
+            many += len(found)
+        self.assertTrue(many > 20)
 
     def test_papers(self):
         values = any_values()
