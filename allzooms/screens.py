@@ -61,12 +61,19 @@ class State:
         return state
 
 
-class Saved:
-    """What a trial goes back to: the state ahead, and what has the state to be kept at the end."""
+class Kept:
+    """A state that a trial goes back to."""
 
-    def __init__(self, state, outer):
+    def __init__(self, state):
         self.state = state
-        self.kept_from = self
+
+
+class Outer:
+    """What a trial goes back to behind a block that was entered within its own block."""
+
+    def __init__(self, begun, source, outer):
+        self.begun = begun
+        self.source = source
         self.outer = outer
 
 
@@ -75,23 +82,29 @@ class Trial:
 
     def __init__(self, screen):
         self.screen = screen
-        self.saved = None
+        self.begun = None
+        # What has the state at the end of the block: the one ahead of it, or the screen itself.
+        self.source = None
+        self.outer = None
 
     def __enter__(self):
-        self.saved = Saved(self.screen.state, self.saved)
+        self.outer = Outer(self.begun, self.source, self.outer)
+        self.begun = self.screen.state
+        self.source = Kept(self.begun)
         return self
 
     def __exit__(self, kind, value, trace):
         if kind is None:
-            self.screen.state = self.saved.kept_from.state
+            self.screen.state = self.source.state
         else:
-            self.screen.state = self.saved.state
-        self.saved = self.saved.outer
+            self.screen.state = self.begun
+        self.begun = self.outer.begun
+        self.source = self.outer.source
+        self.outer = self.outer.outer
 
     def keep(self):
         """Lets the deeds of the block stay, if no error leaves it."""
-        if self.saved is not None:
-            self.saved.kept_from = self.screen
+        self.source = self.screen
 
 
 class Screen:

@@ -1,6 +1,7 @@
 import random
 import unittest
 from fractions import Fraction
+from itertools import product
 
 from allzooms.drawn import Claim, Drawn
 from allzooms.errors import BadRatio, BadScreen, BadScroll, BadZoom, NoBox, NoChange, NoZoom, Refused, SnapError, TooMany
@@ -471,21 +472,49 @@ class BlockTest(Case):
             self.assertEqual((screen.zoom_now, screen.history), (HALF, ()))
 
     def test_trials_within_trials(self):
-        for outer_keeps in (False, True):
-            for inner_keeps in (False, True):
+        for outer_keeps, inner_keeps, is_same in product((False, True), (False, True), (False, True)):
+            screen = screen_of()
+            trial = screen.trial()
+            with trial as same:
+                screen.set_zoom(2)
+                if outer_keeps:
+                    same.keep()
+                with (trial if is_same else screen.trial()) as inner:
+                    screen.set_zoom(3)
+                    if inner_keeps:
+                        inner.keep()
+                self.assertEqual(screen.zoom_now, 3 if inner_keeps else 2)
+                screen.set_scroll(1)
+            kept = ("zoom", "zoom", "scroll") if inner_keeps else ("zoom", "scroll")
+            self.assertEqual(screen.history, kept if outer_keeps else ())
+
+    def test_one_trial_within_itself(self):
+        for keeps in product((False, True), repeat=3):
+            for is_left in (False, True):
                 screen = screen_of()
                 trial = screen.trial()
-                with trial as same:
-                    screen.set_zoom(2)
-                    if outer_keeps:
-                        same.keep()
-                    with (trial if inner_keeps else screen.trial()) as inner:
-                        screen.set_zoom(3)
-                        if inner_keeps:
-                            inner.keep()
-                    self.assertEqual(screen.zoom_now, 3 if inner_keeps else 2)
-                kept = ("zoom", "zoom")[:1 + inner_keeps] if outer_keeps else ()
-                self.assertEqual(screen.history, kept)
+                trial.keep()
+                try:
+                    with trial as first:
+                        screen.set_zoom(2)
+                        with trial as second:
+                            screen.set_zoom(3)
+                            with trial as third:
+                                screen.set_zoom(4)
+                                if keeps[2]:
+                                    third.keep()
+                            self.assertEqual(screen.history, ("zoom",) * (2 + keeps[2]))
+                            if keeps[1]:
+                                second.keep()
+                        inner = 1 + keeps[1] * (1 + keeps[2])
+                        self.assertEqual(screen.history, ("zoom",) * inner)
+                        if keeps[0]:
+                            first.keep()
+                        if is_left:
+                            raise NoBox("own")
+                except NoBox:
+                    pass
+                self.assertEqual(screen.history, ("zoom",) * (inner if keeps[0] and not is_left else 0))
 
     def test_tried(self):
         screen = screen_of()
