@@ -76,6 +76,12 @@ def zooms_of(claim, is_all):
     return TurnMarks(points, scale, survey.frame.divisor, stories).as_zooms(survey.last_change())
 
 
+def holds_in_cell(survey, place):
+    """Whether the claim of a survey holds at a zoom, a Ratio, at every scroll."""
+    stories = survey.stories(Cell(survey.frame, place, place).faces())
+    return all([story[0][1] for story in stories])
+
+
 class Verdict:
     """The base of papers that tell whether something holds."""
 
@@ -141,10 +147,7 @@ def holds_at(claim, zoom):
     if not is_zoom(zoom):
         raise BadZoom(zoom)
     check_outermost(claim)
-    survey = Survey(claim)
-    place = Ratio.of(zoom)
-    stories = survey.stories(Cell(survey.frame, place, place).faces())
-    return all([story[0][1] for story in stories])
+    return holds_in_cell(Survey(claim), Ratio.of(zoom))
 
 
 def zooms_always(claim):

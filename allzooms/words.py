@@ -53,7 +53,11 @@ class Words:
         self.at += 1
         return number
 
+    def is_more(self):
+        """Whether any word stands here."""
+        return self.at < len(self.words)
+
     def finish(self):
         """No word may stand here any more."""
-        if self.at < len(self.words):
+        if self.is_more():
             self.refuse()

@@ -2,6 +2,9 @@
 
 import unittest
 
+from allzooms.choices import Tight
+from allzooms.compared import Alike, Parted
+from allzooms.desk import Desk
 from allzooms.drawn import Claim, Drawn
 from allzooms.errors import SnapError
 from allzooms.most import Endless, Most
@@ -9,6 +12,7 @@ from allzooms.pages import Box, Page
 from allzooms.ratios import Ratio
 from allzooms.roundings import Rounding
 from allzooms.screens import Screen
+from allzooms.sights import Agreed, Seen, Sight, Unseen
 from allzooms.views import Always, Broken
 from allzooms.ways import AtLeast, ByEdges, InRow, Style, draw
 from allzooms.zooms import Zooms
@@ -28,6 +32,9 @@ def any_values():
         Broken(Ratio(1), Ratio(0)), Broken(None, []), Endless(1), Most(Ratio(1), True, 1, 0, (Ratio(0), Ratio(1)), (0,)),
         ByEdges(), AtLeast(InRow(), 3), Style(ByEdges()), Style(InRow(), a=ByEdges()), draw(Page(), Style(ByEdges())),
         draw(Page(Box("a", 0, 1)), Style(InRow())), Screen(Page(Box("a", 0, 1)), Style(InRow())),
+        Alike({}), Alike([]), Parted("a", "left", Ratio(1), Ratio(0)), Parted([], {}, None, "x"), Sight(1, 0), Sight(2, 3, None, False),
+        Seen(Ratio(1), Ratio(0)), Seen(True, "x"), Unseen(((0, "low", 1), (None, "zoom", 2))), Unseen([None]),
+        Agreed(Ratio(1), (0,), (Ratio(1),)), Agreed(None, [], {}), Tight(1, Always((0, 1), (0,)), None), Tight("x", [], ()), Desk(),
     ]
 
 

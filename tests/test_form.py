@@ -114,8 +114,10 @@ class FormTest(unittest.TestCase):
                 if isinstance(node, ast.Expr):
                     self.assertEqual(at, 0)
                 if isinstance(node, ast.Assign):
-                    self.assertTrue(all(isinstance(part, (ast.Constant, ast.Tuple, ast.List, ast.Dict, ast.expr_context))
-                                        for part in ast.walk(node.value)), name)
+                    ahead = [part.name for part in tree.body[:at] if isinstance(part, ast.FunctionDef)]
+                    for part in ast.walk(node.value):
+                        is_plain = isinstance(part, (ast.Constant, ast.Tuple, ast.List, ast.Dict, ast.expr_context))
+                        self.assertTrue(is_plain or isinstance(part, ast.Name) and part.id in ahead, name)
                 if isinstance(node, ast.ImportFrom):
                     told = [alias.name for alias in node.names]
                     self.assertTrue(node.level == 0 and all(alias.asname is None for alias in node.names))
