@@ -90,9 +90,9 @@ def any_ways(source, names=NAMES):
     return {name: any_way(source) for name in source.sample(names, source.randint(0, 3))}
 
 
-def any_boxes(source, names=NAMES):
+def any_boxes(source, names=NAMES, most=6):
     """Boxes by chance, with unlike names."""
-    waiting = source.sample(names, source.randint(1, 6))
+    waiting = source.sample(names, source.randint(1, most))
 
     def row(depth):
         boxes = []

@@ -25,7 +25,7 @@ class ExamplesTest(unittest.TestCase):
                 self.held(waiting, line, names)
             waiting = None
             many += 1
-        self.assertEqual(many, 51)
+        self.assertEqual(many, 74)
 
     def held(self, code, told, names):
         """Holds what comes of a line of code against what the document tells."""
