@@ -24,6 +24,16 @@ FORMS = {
             ["least", "FROM_ONE", "WAY"]],
     "STYLE": [["WAY"], ["STYLE", ";", "NAME", "WAY"]],
     "BOX": [["NAME", "N", "NATURAL"], ["NAME", "N", "NATURAL", "(", "BOXES", ")"]],
+    "LINE": [["drawn", "NAME", "DRAWN"], ["claim", "NAME", "CLAIM"], ["page", "NAME", "PAGE"], ["style", "NAME", "STYLE"],
+             ["side", "NAME", "NAME", "NAME", "NAME", "SIDE"], ["JOINT", "NAME", "NAME", "NAME"], ["not", "NAME", "NAME"],
+             ["sum", "NAME", "NAME", "N", "NAME"], ["NAMED", "NAME"], ["at", "NAME", "NUMBER", "NUMBER"],
+             ["pixels", "NAME", "NAME", "NUMBER", "NUMBER"], ["zooms", "NAME", "WHERE"], ["row", "ROUNDING", "N"],
+             ["seen", "PAIRS"], ["undo"]],
+    "JOINT": [["most"], ["below"], ["equal"], ["and"], ["or"], ["alike"]],
+    "NAMED": [["forget"], ["judge"], ["share"], ["greatest"], ["least"], ["show"]],
+    "SIDE": [["left"], ["right"]],
+    "WHERE": [["NUMBER"], ["every"], ["some"]],
+    "PAIRS": [["N", "N"], ["PAIRS", "N", "N"]],
 }
 COUNTED = ("edge", "size", "true", "(")
 
@@ -48,10 +58,10 @@ def fits(symbol, words, at, begin):
     number = as_written(word)
     if symbol == "NAME":
         return is_name(word)
-    if symbol not in ("RATIO", "COUNT", "N", "NATURAL", "FROM_ONE", "FROM", "ABOVE"):
+    if symbol not in ("RATIO", "NUMBER", "COUNT", "N", "NATURAL", "FROM_ONE", "FROM", "ABOVE"):
         return word == symbol
-    if number is None:
-        return False
+    if number is None or symbol == "NUMBER":
+        return number is not None
     if symbol == "RATIO":
         # A whole number right ahead of a term or a choice is a count.
         return number.denominator > 1 or at + 1 == len(words) or words[at + 1] not in COUNTED
