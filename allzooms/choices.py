@@ -117,15 +117,11 @@ def spared(*claims):
     for at, claim in enumerate(claims):
         if not isinstance(claim, Claim):
             raise BadClaim(at)
-    joined = []
+    found = []
     for at, claim in enumerate(claims):
         others = Claim.of(True)
         for other in claims[:at] + claims[at + 1:]:
             others = others & other
-        joined.append(follows_claim(claim, others))
-    # Likewise: first what is refused of any of them.
-    for claim in joined:
-        check_outermost(claim)
-    for claim in joined:
-        cuts(claim)
-    return tuple([at for at, claim in enumerate(joined) if judge(claim)])
+        if judge(follows_claim(claim, others)):
+            found.append(at)
+    return tuple(found)

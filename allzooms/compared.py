@@ -2,7 +2,6 @@
 
 from allzooms.drawn import atom_of, summed
 from allzooms.errors import BadDrawing, BadNumber, BadRounding, Unlike
-from allzooms.faces import Frame
 from allzooms.most import greatest, least
 from allzooms.ratios import is_integer
 from allzooms.roundings import Rounding
@@ -109,14 +108,10 @@ def alike(one, other):
 def differences(one, other):
     """A dict from the edges to the least and the greatest difference of two drawings there."""
     check_drawings(one, other)
-    lesses = {edge: edge_less(one, other, edge) for edge in edges_of(one)}
-    # Too many cuts at any edge are told ahead of too many turns.
-    for less in list(lesses.values()):
-        Frame(less.terms).cuts()
     known = {}
     found = {}
     for edge in edges_of(one):
-        less = lesses[edge]
+        less = edge_less(one, other, edge)
         if less.told not in known:
             known[less.told] = worth_range(less)
         found[edge] = known[less.told]

@@ -189,19 +189,32 @@ TELLERS = {
 class Things:
     """What the names of a desk stand for at one time. It never changes: a line makes a new one."""
 
-    def __init__(self, by_name, earlier, many):
+    def __init__(self, by_name):
         self.by_name = by_name
         self.in_order = tuple(sorted([str(name) for name in by_name]))
-        # The things ahead of the last line that can be taken back, and how many such lines there are.
+
+    def with_thing(self, name, thing):
+        """The same, but that a name stands for this, or, for None, for nothing."""
+        others = {other: self.by_name[other] for other in self.in_order if other != name}
+        return Things(others if thing is None else {**others, name: thing})
+
+
+class LineDone:
+    """A line that can be taken back: its name, what this stood for ahead of it, and the line ahead of it."""
+
+    def __init__(self, name, thing, earlier):
+        self.name = name
+        self.thing = thing
         self.earlier = earlier
-        self.many = many
+        self.many = 1 if earlier is None else earlier.many + 1
 
 
 class Desk:
     """Names for things, and lines about them."""
 
     def __init__(self):
-        self.things = Things({}, None, 0)
+        self.things = Things({})
+        self.last_done = None
 
     def say(self, line):
         """Does a line, and returns its answer."""
@@ -210,11 +223,11 @@ class Desk:
         if word == "undo":
             return self.take_back()
         if word == "forget":
-            return self.put({name: self.things.by_name[name] for name in self.things.in_order if name != parts[0][1]})
+            return self.put(parts[0][1], None)
         if word in MAKERS:
             maker = MAKERS[word]
             inner = told[1:]
-            return self.put({**self.things.by_name, told[0]: maker(*inner)})
+            return self.put(told[0], maker(*inner))
         teller = TELLERS[word]
         return teller(*told)
 
@@ -230,29 +243,32 @@ class Desk:
             raise Unlike(part)
         return thing
 
-    def put(self, by_name):
-        """Goes on by a line that makes, exchanges or forgets a thing."""
-        self.things = Things(by_name, self.things, self.things.many + 1)
+    def put(self, name, thing):
+        """Goes on by a line that makes or exchanges a thing, or, for None, forgets it."""
+        self.last_done = LineDone(name, self.things.by_name.get(name), self.last_done)
+        self.things = self.things.with_thing(name, thing)
         return "ok"
 
     def take_back(self):
         """Takes the last such line back."""
-        if self.things.earlier is None:
+        done = self.last_done
+        if done is None:
             return "nothing"
-        self.things = self.things.earlier
+        self.things = self.things.with_thing(done.name, done.thing)
+        self.last_done = done.earlier
         return "ok"
 
     def run(self, *lines):
         """The answers to lines; if one raises an error, the desk is as before the first one."""
-        last = self.things
+        things, done = self.things, self.last_done
         try:
             answers = []
             for line in lines:
                 answers.append(self.say(line))
-            last = self.things
+            things, done = self.things, self.last_done
             return answers
         finally:
-            self.things = last
+            self.things, self.last_done = things, done
 
     def __getitem__(self, at):
         if at not in self:
@@ -274,7 +290,7 @@ class Desk:
     @property
     def changes(self):
         """How many lines can be taken back."""
-        return self.things.many
+        return 0 if self.last_done is None else self.last_done.many
 
     def lines(self):
         """Lines that make the same things, by ascending names."""

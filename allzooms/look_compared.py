@@ -24,7 +24,7 @@ def shows_alike(one, other, value):
 
 def is_right_parted(one, other, parted):
     """Whether a Parted tells an edge and a view at which it is drawn unlike."""
-    if parted.name not in one or not isinstance(parted.side, str) or parted.side not in ("left", "right"):
+    if parted.name not in one or parted.side not in ("left", "right"):
         return False
     if not is_zoom(parted.zoom) or not is_number(parted.scroll):
         return False

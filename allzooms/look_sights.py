@@ -28,7 +28,7 @@ def shows_seen(sights, value):
 
 def are_barring(sights, triples):
     """Whether a tuple of triples (index, side, weight) tells of rows that bar each other."""
-    if not isinstance(triples, tuple) or not 1 <= len(triples) <= MOST_ROWS:
+    if not isinstance(triples, tuple) or len(triples) > MOST_ROWS:
         return False
     told = {(row.index, row.side): row for row in all_rows(sights)}
     rise, pull, bound, is_strict = 0, 0, Ratio(0), False

@@ -96,6 +96,11 @@ class BestRoundingTest(Case):
                             (lambda rounding: CROWDED if rounding == UP else Claim.of(True), CUTS)):
             self.refuses(error, best_rounding, told, HALF, UP, DOWN)
         self.refuses(TRUE, best_rounding, lambda rounding: Drawn.true(1).at_most(0), UP)
+        many = overtaken(202).at_most(10 ** 9)
+        self.refuses(TURNS, best_rounding, lambda rounding: many, HALF, UP)
+        # The error that is listed first goes ahead, of whichever claim it is told.
+        self.refuses(CUTS, best_rounding, lambda rounding: CROWDED if rounding == UP else many, HALF, UP)
+        self.refuses(MAKE, best_rounding, lambda rounding: None if rounding == UP else HIDDEN, HALF, UP)
 
     def test_errors_of_make(self):
         def wrong(rounding):
@@ -277,6 +282,8 @@ class TightestTest(Case):
             if not is_claim(value):
                 self.refuses(MAKE, shows_tight, lambda number: value, 0, 5, told)
                 self.refuses(MAKE, shows_tight, lambda number: value if number == 0 else drawn.at_most(number), 0, 5, told)
+        level = [judge(drawn.at_most(number)) for number in (2, 3)]
+        self.assertIs(shows_tight(drawn.at_most, 0, 5, Tight(3, level[1], level[0])), False)
         self.refuses(TRUE, shows_tight, lambda number: HIDDEN, 0, 5, told)
         self.refuses(CUTS, shows_tight, lambda number: CROWDED, 0, 5, told)
         self.assertIs(shows_tight(value=told, high=5, low=-5, make=drawn.at_most), True)

@@ -337,6 +337,14 @@ class LookComparedTest(Case):
         broken = alike(self.one, other)
         papers = {**self.found.papers, ("b", "left"): Broken(broken.zoom, broken.scroll)}
         self.assertIs(shows_alike(self.one, other, Alike(papers)), False)
+        # All papers are right ones, but one of them is no Always.
+        one = draw(Page(Box("a", 0, 3)), Style(ByEdges()))
+        other = draw(Page(Box("a", 0, 3)), Style(ByEdges(HALF, UP)))
+        broken = alike(one, other)
+        self.assertEqual((broken.name, broken.side), ("a", "right"))
+        papers = {("a", "left"): alike(one, one).papers["a", "left"], ("a", "right"): Broken(broken.zoom, broken.scroll)}
+        self.assertTrue(all(shows_judge(claim_of(one, other, edge), papers[edge]) for edge in papers))
+        self.assertIs(shows_alike(one, other, Alike(papers)), False)
 
     def test_any_parted(self):
         one = draw(Page(Box("a", 0, 3), Box("b", 3, 3)), Style(InRow()))

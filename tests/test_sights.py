@@ -169,6 +169,18 @@ class SeenTest(Case):
             found = seen(*[made_sight(sight) for sight in sights])
             self.assertTrue(len(found.rows) == 3 and bar_is_right(sights, found.rows), found.rows)
 
+    def test_four_rows_are_too_many(self):
+        sights = [(2, 0, PLAIN_HALF, True), (-2, 0, PLAIN_HALF, True), (1, -10, PLAIN_HALF, True), (-1, -10, PLAIN_HALF, True)]
+        for order in (sights, sights[::-1], sights[2:] + sights[:2], [(3, -4, PLAIN_HALF, True), *sights, (0, -4, PLAIN_HALF, True)]):
+            found = seen(*[made_sight(sight) for sight in order])
+            self.assertTrue(not found and bar_is_right(order, found.rows), found.rows)
+        for seed in range(200):
+            source = random.Random(seed)
+            sights = [(unit, source.randint(-9, 9), PLAIN_HALF, True) for unit in source.sample(range(-5, 6), source.randint(4, 7))]
+            found = seen(*[made_sight(sight) for sight in sights])
+            self.assertTrue(found or bar_is_right(sights, found.rows))
+            self.assertEqual(bool(found), zooms_told(sights) is not None)
+
     def test_borders(self):
         above = Rounding(Ratio(1, 2), False)
         for one, other, told in (
@@ -351,6 +363,11 @@ class LookSeenTest(Case):
         self.assertIs(shows_seen([Sight(3, -4, None, False)], Unseen(((0, "high", 5), (None, "zoom", 15)))), True)
         self.assertIs(shows_seen([Sight(3, -4, None, False)], Unseen(((0, "high", 5), (None, "high", 15)))), False)
         self.assertIs(shows_seen([Sight(3, -4, None, False)], Unseen(((0, "high", 5), (0, "zoom", 15)))), False)
+        # Four rows bar each other as well, but are too many; a row that is not needed has no weight at all.
+        sights_barred = [Sight(10, 7), Sight(10, 9), Sight(20, 1), Sight(20, 5)]
+        bars = ((1, "low", 1), (0, "high", 1)), ((3, "low", 2), (2, "high", 2))
+        for told, is_right in ((bars[0], True), (bars[1], True), (bars[0] + bars[1], False), ((*bars[0], (2, "low", 0)), False), ((*bars[0], bars[1][0]), False)):
+            self.assertIs(shows_seen(sights_barred, Unseen(told)), is_right)
         # The last Sight by an index from behind is none.
         self.assertIs(shows_seen(sights, Unseen(((-2, "low", 3), (0, "high", 1), (-1, "high", 2)))), False)
 
